@@ -1,5 +1,6 @@
 """The flows of a land: which one rests, which one is best, and what they cost."""
 
+from roadrest.lands import without_road
 from roadrest.ratios import common_multiple, less, plus, ratio, times
 from roadrest.rest import Link, Net, rest
 
@@ -43,6 +44,11 @@ def untolled_cost(road, amount):
     return plus(ratio(road.base, 1), times(ratio(road.slope, 1), amount))
 
 
+def road_cost(road, amount):
+    """What the road costs each unit with the amount on it."""
+    return plus(untolled_cost(road, amount), road.toll)
+
+
 def spent(land, flow):
     """What all together spend in the flow."""
     total = ratio(0, 1)
@@ -60,8 +66,32 @@ def cheapest_costs(land, flow):
         for road, amount in zip(land.roads, flow):
             if road.shut == 1 or road.tail not in costs:
                 continue
-            reach = plus(costs[road.tail], plus(untolled_cost(road, amount), road.toll))
+            reach = plus(costs[road.tail], road_cost(road, amount))
             if road.head not in costs or less(reach, costs[road.head]):
                 costs[road.head] = reach
                 changed = True
     return costs
+
+
+def cost_each(land):
+    """What it costs each to come to the goal in the flow that rests, or None if there's no way."""
+    flow = resting_flow(land)
+    if flow is None:
+        return None
+    return cheapest_costs(land, flow)[land.goal]
+
+
+def best_tolls(land, best):
+    """Of each road the toll with which all rest in the best flow of themselves."""
+    # That's what one unit more makes those dearer who are on the road already.
+    return [times(ratio(road.slope, 1), amount) for road, amount in zip(land.roads, best)]
+
+
+def better_shut(land, cost):
+    """The roads that, each shut alone, would make it cost each less than the cost."""
+    numbers = []
+    for number in range(len(land.roads)):
+        other = cost_each(without_road(land, number))
+        if other is not None and less(other, cost):
+            numbers.append(number)
+    return numbers

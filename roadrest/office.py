@@ -1,23 +1,18 @@
 """The office: calls made one after the other on one object, and their answers."""
 
-from roadrest.flows import best_flow, cheapest_costs, resting_flow, spent
-from roadrest.lands import Land, Road
+from roadrest.asking import asked
+from roadrest.lands import Land, Road, are_units
 from roadrest.ratios import ratio
-
-WRONG_NUMBER = -1
-NOT_THERE = -2
-NO_WAY = -4
-FULL = -5
-NO_LAND = -8
+from roadrest.refusals import FULL, NO_LAND, NOT_THERE, WRONG_NUMBER
 
 MOST_PLACES = 6
 MOST_ROADS = 9
-MOST_UNITS = 1000
 MOST_BASE = 1000
 MOST_SLOPE = 1000
 MOST_OF_TOLL = 1000000
 
 LAND_CALL = 1
+JUDGE_CALL = 20
 
 
 class Office:
@@ -27,22 +22,9 @@ class Office:
         self.land = None
 
 
-def are_units(number):
-    """Whether so many units may go."""
-    return 1 <= number <= MOST_UNITS
-
-
 def are_base_and_slope(base, slope):
     """Whether a road may have this base and this slope."""
     return base <= MOST_BASE and 1 <= slope <= MOST_SLOPE
-
-
-def fractions_told(fractions):
-    """The fractions as numbers, one behind another, without how many they are."""
-    told = []
-    for fraction in fractions:
-        told.extend(list(fraction))
-    return told
 
 
 def make_land(office, given):
@@ -124,63 +106,39 @@ def set_demand(office, given):
     return [0]
 
 
-def tell_land(office, given):
-    """Call 7, told."""
-    land = office.land
-    told = [land.places, land.source, land.goal, land.units, len(land.roads)]
-    for road in land.roads:
-        told.extend([road.tail, road.head, road.base, road.slope, road.toll[0], road.toll[1], road.shut])
-    return told
-
-
-def tell_flow(office, given):
-    """Call 8, flow."""
-    flow = resting_flow(office.land)
-    if flow is None:
-        return [NO_WAY]
-    return [len(flow)] + fractions_told(flow)
-
-
-def tell_time(office, given):
-    """Call 9, time."""
-    land = office.land
-    flow = resting_flow(land)
-    if flow is None:
-        return [NO_WAY]
-    costs = cheapest_costs(land, flow)
-    return fractions_told([costs[land.goal], spent(land, flow)])
-
-
-def tell_best(office, given):
-    """Call 10, best."""
-    flow = best_flow(office.land)
-    if flow is None:
-        return [NO_WAY]
-    return [len(flow)] + fractions_told(flow + [spent(office.land, flow)])
-
-
-CALLS = {
+CHANGING = {
     1: make_land,
     2: add_road,
     3: change_road,
     4: set_toll,
     5: set_shut,
     6: set_demand,
-    7: tell_land,
-    8: tell_flow,
-    9: tell_time,
-    10: tell_best,
 }
 
-# How many numbers are handed in with each call.
-GIVEN = {1: 4, 2: 4, 3: 3, 4: 3, 5: 2, 6: 1, 7: 0, 8: 0, 9: 0, 10: 0}
+# How many numbers are handed in with each call; of judge those before its list.
+GIVEN = {
+    1: 4, 2: 4, 3: 3, 4: 3, 5: 2, 6: 1, 7: 0, 8: 0, 9: 0, 10: 0,
+    11: 0, 12: 0, 13: 1, 14: 1, 15: 0, 16: 1, 17: 0, 18: 1, 19: 0, 20: 2,
+}
 
 
 def answer(office, number, given):
     """What one call on the office answers."""
     if number != LAND_CALL and office.land is None:
         return [NO_LAND]
-    return CALLS[number](office, given)
+    if number in CHANGING:
+        return CHANGING[number](office, given)
+    return asked(office.land, number, given)
+
+
+def call_end(calls, place):
+    """The place behind the call that begins at the place."""
+    number = calls[place]
+    end = place + 1 + GIVEN[number]
+    if number == JUDGE_CALL:
+        # The last number before the list is how many the list has.
+        end += calls[end - 1]
+    return end
 
 
 def answers(calls):
@@ -189,9 +147,8 @@ def answers(calls):
     told = []
     place = 0
     while place < len(calls):
-        number = calls[place]
-        end = place + 1 + GIVEN[number]
-        numbers = answer(office, number, calls[place + 1:end])
+        end = call_end(calls, place)
+        numbers = answer(office, calls[place], calls[place + 1:end])
         told.append(len(numbers))
         told.extend(numbers)
         place = end

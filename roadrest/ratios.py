@@ -31,6 +31,16 @@ def times(first, second):
     return ratio(first[0] * second[0], first[1] * second[1])
 
 
+def minus(first, second):
+    """The first fraction less the second."""
+    return plus(first, (-second[0], second[1]))
+
+
+def divided(first, second):
+    """The first fraction by the second, which is above 0."""
+    return ratio(first[0] * second[1], first[1] * second[0])
+
+
 def less(first, second):
     """Whether the first fraction is below the second."""
     return first[0] * second[1] < second[0] * first[1]

@@ -195,8 +195,7 @@ def rest(net):
     way = some_way(net)
     if way == []:
         return None
-    start = Load([net.units if number in way else 0 for number in range(len(net.links))], 1)
-    load = settled(net, start, way)
+    load = balanced(net, way)
     detour = cheaper_detour(net, load)
     while detour != []:
         load = settled(net, load, load.carrying() + detour)

@@ -6,6 +6,7 @@ from fractions import Fraction
 from roadrest.office import answers
 
 LAND, ROAD, CHANGE, TOLL, SHUT, DEMAND, TOLD, FLOW, TIME, BEST = range(1, 11)
+PRICE, TOLLS, COST, WITHOUT, BETTER, AT, WAYS, WAY, PARTS, JUDGE = range(11, 21)
 
 BRAESS = [
     (LAND, 4, 0, 3, 6),
@@ -15,6 +16,34 @@ BRAESS = [
     (ROAD, 2, 3, 0, 10),
     (ROAD, 1, 2, 10, 1),
 ]
+
+# Two roads side by side: the second is gone only when more than ten units go.
+TWO = [(LAND, 2, 0, 1, 20), (ROAD, 0, 1, 0, 1), (ROAD, 0, 1, 10, 1)]
+
+# Two roads from 0 to 1, three on from 1 to 2, all alike.
+BESIDE = [(LAND, 3, 0, 2, 6)] + [(ROAD, 0, 1, 0, 1)] * 2 + [(ROAD, 1, 2, 0, 1)] * 3
+
+# A circle 0, 1, 2, 0, roads back from 2 to 1 and from the goal to 0.
+CIRCLE = [
+    (LAND, 4, 0, 3, 3), (ROAD, 0, 1, 0, 1), (ROAD, 1, 2, 0, 1), (ROAD, 2, 0, 0, 1), (ROAD, 2, 1, 0, 1),
+    (ROAD, 1, 3, 5, 1), (ROAD, 3, 0, 0, 1),
+]
+
+# Lands in which no row of roads that aren't shut leads from the source to the goal.
+WAYLESS = [
+    [(LAND, 2, 0, 1, 5)],
+    [(LAND, 6, 5, 0, 1000)],
+    [(LAND, 4, 0, 3, 5), (ROAD, 0, 1, 1, 1), (ROAD, 2, 3, 1, 1)],
+    [(LAND, 2, 0, 1, 5), (ROAD, 1, 0, 1, 1)],
+    [(LAND, 2, 0, 1, 5), (ROAD, 0, 1, 1, 1), (SHUT, 0, 1)],
+    BRAESS + [(SHUT, 0, 1), (SHUT, 3, 1), (SHUT, 1, 1)],
+    [(LAND, 5, 0, 4, 5), (ROAD, 0, 1, 0, 1), (ROAD, 1, 2, 0, 1), (ROAD, 2, 0, 0, 1), (ROAD, 4, 2, 0, 1)],
+]
+
+
+def judge(numbers, lower):
+    """The call judge of the numbers by the lower one."""
+    return (JUDGE, lower, len(numbers)) + tuple(numbers)
 
 
 def flat(calls):
@@ -75,6 +104,53 @@ def best_of(calls):
     told = fractions(numbers[1:])
     assert numbers[0] == len(told) - 1
     return told[:-1], told[-1]
+
+
+def fraction_of(calls, call):
+    """What the call answers, which must be one fraction."""
+    told = fractions(last(calls + [call]))
+    assert len(told) == 1
+    return told[0]
+
+
+def tolls_of(calls):
+    numbers = last(calls + [(TOLLS,)])
+    told = fractions(numbers[1:])
+    assert numbers[0] == len(told)
+    return told
+
+
+def better_of(calls):
+    numbers = last(calls + [(BETTER,)])
+    assert numbers[0] == len(numbers) - 1
+    return numbers[1:]
+
+
+def way_of(calls, number):
+    """The way's roads, what it costs."""
+    numbers = last(calls + [(WAY, number)])
+    assert len(numbers) == numbers[0] + 3
+    return numbers[1:-2], fractions(numbers[-2:])[0]
+
+
+def all_ways_of(calls):
+    """The roads of each way, as ways and way tell them."""
+    numbers = last(calls + [(WAYS,)])
+    assert len(numbers) == 1
+    return [way_of(calls, number)[0] for number in range(numbers[0])]
+
+
+def parts_of(calls):
+    """Pairs: how much, the way's roads."""
+    numbers = last(calls + [(PARTS,)])
+    found = []
+    place = 1
+    while place < len(numbers):
+        end = place + 3 + numbers[place + 2]
+        found.append((fractions(numbers[place:place + 2])[0], numbers[place + 3:end]))
+        place = end
+    assert place == len(numbers) and numbers[0] == len(found)
+    return found
 
 
 class Seen:
@@ -140,6 +216,41 @@ class Seen:
                     started.append((roads + [k], passed + [v]))
         return found
 
+    def ordered_ways(self):
+        """The ways by the first road that differs."""
+        def digits(way):
+            return "".join(str(k) for k in way)
+        return sorted(self.ways(), key=digits)
+
+    def parts(self, flow):
+        """As the document tells it: the first way with something on each road, again and again."""
+        left = list(flow)
+        found = []
+        while any(left):
+            way = [way for way in self.ordered_ways() if all(left[k] > 0 for k in way)][0]
+            amount = min(left[k] for k in way)
+            found.append((amount, way))
+            left = [x - amount if k in way else x for k, x in enumerate(left)]
+        return found
+
+    def judged(self, flow):
+        """What judge must answer of the flow."""
+        for k, (u, v, a, b, toll, z) in enumerate(self.roads):
+            if z == 1 and flow[k] > 0:
+                return [1, k]
+        for place in range(self.places):
+            comes = sum(x for x, road in zip(flow, self.roads) if road[1] == place)
+            leaves = sum(x for x, road in zip(flow, self.roads) if road[0] == place)
+            wanted = {self.source: -self.units, self.goal: self.units}.get(place, 0)
+            if comes - leaves != wanted:
+                return [2, place]
+        costs = self.costs(flow)
+        found = self.reach(costs)
+        for k, (u, v, a, b, toll, z) in enumerate(self.roads):
+            if flow[k] > 0 and (u not in found or found[u] + costs[k] > found[v]):
+                return [3, k]
+        return [0]
+
     def mixed(self, ways, weights):
         """The flow that shares the units among the ways by the weights."""
         flow = [Fraction(0)] * len(self.roads)
@@ -147,6 +258,22 @@ class Seen:
             for k in way:
                 flow[k] += Fraction(self.units * weight, sum(weights))
         return flow
+
+
+def checked_flow(calls):
+    """What flow answers, held against what it is to rest; there's only one that rests."""
+    land = Seen(calls)
+    flow = flow_of(calls)
+    assert land.adds_up(flow) and land.on_cheapest(flow, land.costs(flow)), calls
+    return flow
+
+
+def checked_cost(calls):
+    """What it costs each at rest, or None if there's no way."""
+    land = Seen(calls)
+    if not land.ways():
+        return None
+    return land.reach(land.costs(checked_flow(calls)))[land.goal]
 
 
 def random_land(rng, tolls=True, bases=True):

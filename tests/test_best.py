@@ -5,10 +5,8 @@ import unittest
 from fractions import Fraction
 
 from tests.helper import (
-    BEST, BRAESS, DEMAND, FLOW, LAND, ROAD, SHUT, TOLL, Seen, best_of, flow_of, last, random_lands, time_of,
+    BEST, BRAESS, DEMAND, FLOW, LAND, ROAD, SHUT, TOLL, TWO, Seen, best_of, flow_of, last, random_lands, time_of,
 )
-
-TWO = [(LAND, 2, 0, 1, 20), (ROAD, 0, 1, 0, 1), (ROAD, 0, 1, 10, 1)]
 
 
 class KnownLandsTest(unittest.TestCase):

@@ -4,10 +4,8 @@ import unittest
 from fractions import Fraction
 
 from tests.helper import (
-    BRAESS, CHANGE, DEMAND, FLOW, LAND, ROAD, SHUT, TIME, TOLL, Seen, flow_of, last, random_lands, run, time_of,
+    BRAESS, CHANGE, DEMAND, FLOW, LAND, ROAD, SHUT, TIME, TOLL, TWO, Seen, flow_of, last, random_lands, run, time_of,
 )
-
-TWO = [(LAND, 2, 0, 1, 20), (ROAD, 0, 1, 0, 1), (ROAD, 0, 1, 10, 1)]
 
 
 class KnownLandsTest(unittest.TestCase):

@@ -139,6 +139,41 @@ class FormTest(unittest.TestCase):
             self.assertEqual(len(set(top_names(tree))), len(top_names(tree)), path)
             self.assertTrue(all(node in tree.body for node in ast.walk(tree) if isinstance(node, ast.ClassDef)))
 
+    def test_kept_lists_and_dicts_are_only_read(self):
+        for path, tree in trees():
+            kept = []
+            for number, node in enumerate(tree.body):
+                if isinstance(node, ast.Assign) and isinstance(node.value, (ast.List, ast.Dict)):
+                    kept.append(node.targets[0].id)
+                    above = [one.name for one in tree.body[:number] if isinstance(one, ast.FunctionDef)]
+                    used = [part.id for part in ast.walk(node.value) if isinstance(part, ast.Name)]
+                    self.assertEqual([name for name in used if name not in above], [], path)
+            read = []
+            for node in ast.walk(tree):
+                if isinstance(node, ast.Subscript) and isinstance(node.ctx, ast.Load):
+                    read.append(node.value)
+                if isinstance(node, ast.Compare):
+                    read.extend(node.comparators)
+            for node in ast.walk(tree):
+                if isinstance(node, ast.Name) and node.id in kept and isinstance(node.ctx, ast.Load):
+                    self.assertIn(node, read, path)
+
+    def test_classes_are_called(self):
+        classes = [node.name for path, node in nodes(ast.ClassDef)]
+        called = [node.func for path, tree in trees() for node in ast.walk(tree) if isinstance(node, ast.Call)]
+        for path, node in nodes(ast.Call):
+            self.assertFalse(isinstance(node.func, ast.Name) and node.func.id in ("isinstance", "chr"))
+        names = [node for path, tree in trees() for node in ast.walk(tree) if isinstance(node, ast.Name)]
+        self.assertEqual(len([one for one in names if one.id in classes]),
+                         len([one for one in called if isinstance(one, ast.Name) and one.id in classes]))
+
+    def test_keywords(self):
+        allowed = {"sorted": ["key", "reverse"], "min": ["key", "default"], "max": ["key", "default"],
+                   "sum": ["start"], "enumerate": ["start"], "zip": ["strict"]}
+        for path, node in nodes(ast.Call):
+            for word in node.keywords:
+                self.assertIn(word.arg, allowed.get(ast.unparse(node.func), []), path)
+
     def test_functions_and_classes(self):
         for path, node in nodes(ast.FunctionDef):
             given = node.args

@@ -3,11 +3,15 @@
 import unittest
 
 from tests.helper import (
-    BEST, BRAESS, CHANGE, DEMAND, FLOW, LAND, ROAD, SHUT, TIME, TOLD, TOLL, flow_of, last, run,
+    AT, BEST, BETTER, BRAESS, CHANGE, COST, DEMAND, FLOW, LAND, PARTS, PRICE, ROAD, SHUT, TIME, TOLD, TOLL, TOLLS,
+    TWO, WAY, WAYLESS, WAYS, WITHOUT, flow_of, judge, last, run,
 )
 
 HUGE = 4294967295
-ASKING = [(FLOW,), (TIME,), (BEST,)]
+MOST = 1000000000
+# The calls that are refused where there's no way, as far as their numbers are right in BRAESS.
+NEEDING = [(FLOW,), (TIME,), (BEST,), (PRICE,), (TOLLS,), (COST, 2), (WITHOUT, 3), (BETTER,), (AT, 9), (PARTS,)]
+ASKING = NEEDING + [(WAYS,), (WAY, 1), judge([4, 2, 2, 4, 2], 1)]
 FULL = [(LAND, 2, 0, 1, 4)] + [(ROAD, 0, 1, k, 1) for k in range(9)]
 
 
@@ -26,6 +30,7 @@ class RefusalTest(unittest.TestCase):
 
     def test_no_land_comes_before_all_else(self):
         wrong = [(ROAD, 9, 9, 1001, 0), (CHANGE, 9, 1001, 0), (TOLL, 9, 1, 0), (SHUT, 9, 2), (DEMAND, 0)]
+        wrong += [(COST, 9), (WITHOUT, 9), (AT, 0), (WAY, 0), judge([], 0), judge([], 1), judge([HUGE] * 40, HUGE)]
         for call in wrong:
             self.assertEqual(run([call]), [[-8]])
 
@@ -96,44 +101,137 @@ class RefusalTest(unittest.TestCase):
         for units in (0, 1001, HUGE):
             self.refused(BRAESS, (DEMAND, units), -1)
 
+    def test_cost(self):
+        for v in (4, 5, HUGE):
+            self.refused(BRAESS, (COST, v), -2)
+        apart = [(LAND, 3, 0, 1, 5), (ROAD, 0, 1, 0, 1), (ROAD, 2, 1, 0, 1)]
+        self.refused(apart, (COST, 2), -4)
+        self.refused(apart + [(ROAD, 1, 2, 0, 1), (SHUT, 2, 1)], (COST, 2), -4)
+
+    def test_without(self):
+        for e in (5, 6, 9, HUGE):
+            self.refused(BRAESS, (WITHOUT, e), -2)
+        self.refused(TWO[:2], (WITHOUT, 0), -4)
+        self.refused(TWO + [(SHUT, 1, 1)], (WITHOUT, 0), -4)
+        self.refused(BRAESS + [(SHUT, 2, 1)], (WITHOUT, 3), -4)
+
+    def test_at(self):
+        for units in (0, 1001, HUGE):
+            self.refused(BRAESS, (AT, units), -1)
+
+    def test_way(self):
+        for k in (3, 4, HUGE):
+            self.refused(BRAESS, (WAY, k), -2)
+        self.refused(BRAESS + [(SHUT, 4, 1)], (WAY, 2), -2)
+        for before in WAYLESS:
+            for k in (0, 1, HUGE):
+                self.refused(before, (WAY, k), -2)
+
+    def test_judge_wrong_lower_number(self):
+        for q in (0, MOST + 1, HUGE):
+            self.refused(BRAESS, judge([4, 2, 2, 4, 2], q), -1)
+            self.refused([(LAND, 2, 0, 1, 1)], judge([], q), -1)
+
+    def test_judge_wrong_list(self):
+        for numbers in ([], [4, 2, 2, 4], [4, 2, 2, 4, 2, 0], [0] * 40):
+            self.refused(BRAESS, judge(numbers, 1), -3)
+            self.refused(BRAESS, judge(numbers, MOST), -3)
+        for number in (MOST + 1, HUGE):
+            for place in range(5):
+                self.refused(BRAESS, judge([number if k == place else 0 for k in range(5)], MOST), -3)
+        self.refused([(LAND, 2, 0, 1, 1)], judge([0], 1), -3)
+        # One above the most is wrong, the most is not.
+        self.assertEqual(last(BRAESS + [judge([MOST] * 5, 1)]), [2, 0])
+
+    def test_judge_order_of_refusals(self):
+        for numbers in ([], [HUGE], [HUGE] * 5, [0] * 40):
+            self.refused(BRAESS, judge(numbers, 0), -1)
+            self.refused(BRAESS, judge(numbers, MOST + 1), -1)
+        # What's refused isn't judged: road 4 is shut.
+        self.refused(BRAESS + [(SHUT, 4, 1)], judge([0, 0, 0, 0, MOST + 1], 1), -3)
+
     def test_no_way(self):
-        apart = [(LAND, 4, 0, 3, 5), (ROAD, 0, 1, 1, 1), (ROAD, 2, 3, 1, 1)]
-        lands = [
-            [(LAND, 2, 0, 1, 5)],
-            apart,
-            [(LAND, 2, 0, 1, 5), (ROAD, 1, 0, 1, 1)],
-            [(LAND, 2, 0, 1, 5), (ROAD, 0, 1, 1, 1), (SHUT, 0, 1)],
-            BRAESS + [(SHUT, 0, 1), (SHUT, 3, 1), (SHUT, 1, 1)],
-            [(LAND, 5, 0, 4, 5), (ROAD, 0, 1, 0, 1), (ROAD, 1, 2, 0, 1), (ROAD, 2, 0, 0, 1), (ROAD, 4, 2, 0, 1)],
-        ]
-        for before in lands:
-            for call in ASKING:
-                self.refused(before, call, -4)
+        for before in WAYLESS:
+            for call in NEEDING:
+                if call[0] != WITHOUT and call[0] != COST:
+                    self.refused(before, call, -4)
+        apart = WAYLESS[2]
         self.assertEqual(flow_of(apart + [(FLOW,), (ROAD, 1, 2, 0, 1)]), [5, 5, 5])
+
+    def test_no_way_for_a_place_or_without_a_road(self):
+        """No flow rests there, so nothing has a cost, the source and a place that can be come to among them."""
+        for before in WAYLESS:
+            places = before[0][1]
+            roads = len([call for call in before if call[0] == ROAD])
+            for v in range(places):
+                self.refused(before, (COST, v), -4)
+            for e in range(roads):
+                self.refused(before, (WITHOUT, e), -4)
+
+    def test_no_way_comes_last(self):
+        for before in WAYLESS:
+            for v in (before[0][1], 6, HUGE):
+                self.refused(before, (COST, v), -2)
+            for e in (len([call for call in before if call[0] == ROAD]), 9, HUGE):
+                self.refused(before, (WITHOUT, e), -2)
+            for units in (0, 1001, HUGE):
+                self.refused(before, (AT, units), -1)
+
+    def test_no_refusal_where_there_is_no_way(self):
+        for before in WAYLESS:
+            roads = len([call for call in before if call[0] == ROAD])
+            self.assertEqual(run(before + [(WAYS,), judge([0] * roads, 1)])[-2:], [[0], [2, 0]])
 
     def test_a_shut_road_that_is_let_go_again_makes_a_way(self):
         calls = [(LAND, 2, 0, 1, 5), (ROAD, 0, 1, 1, 1), (SHUT, 0, 1), (FLOW,), (SHUT, 0, 0), (FLOW,)]
         self.assertEqual(run(calls)[3:], [[-4], [0], [1, 5, 1]])
 
     def test_a_new_land_forgets_the_old_ways(self):
-        self.assertEqual(run(BRAESS + [(LAND, 4, 0, 3, 6), (FLOW,), (TIME,), (BEST,)])[-3:], [[-4]] * 3)
+        asked = [(FLOW,), (TIME,), (BEST,), (PRICE,), (TOLLS,), (COST, 0), (BETTER,), (AT, 1), (PARTS,)]
+        self.assertEqual(run(BRAESS + [(LAND, 4, 0, 3, 6)] + asked)[-9:], [[-4]] * 9)
+        self.assertEqual(run(BRAESS + [(LAND, 4, 0, 3, 6), (WITHOUT, 0), (WAYS,), (WAY, 0)])[-3:], [[-2], [0], [-2]])
 
     def test_asking_changes_nothing(self):
         """P6."""
-        before = BRAESS + [(TOLL, 1, 7, 3), (SHUT, 4, 1)]
-        told = run(before + [(TOLD,)] + ASKING + [(TOLD,)] + ASKING + [(TOLD,)])[len(before):]
-        self.assertEqual(told[0], told[4])
-        self.assertEqual(told[0], told[8])
-        self.assertEqual(told[1:4], told[5:8])
+        for before in (BRAESS, BRAESS + [(TOLL, 1, 7, 3), (SHUT, 4, 1)]):
+            many = len(ASKING)
+            told = run(before + [(TOLD,)] + ASKING + [(TOLD,)] + ASKING + [(TOLD,)])[len(before):]
+            self.assertEqual(told[0], told[many + 1])
+            self.assertEqual(told[0], told[2 * many + 2])
+            self.assertEqual(told[1:many + 1], told[many + 2:2 * many + 2])
+
+    def test_after_each_call_that_asks_all_is_as_before(self):
+        """P6: told and flow."""
+        before = BRAESS + [(TOLL, 1, 7, 3), (ROAD, 1, 2, 3, 1), (SHUT, 5, 1)]
+        plain = run(before + [(TOLD,), (FLOW,)])[-2:]
+        asked = NEEDING + [(COST, v) for v in range(4)] + [(WITHOUT, e) for e in range(6)] + [(AT, 1), (AT, 1000)]
+        asked += [(WAYS,), (WAY, 0), (WAY, 1), (WAY, 2), judge([0] * 6, 1), judge([1] * 6, 3), judge([4, 2, 2, 4, 2, 0], 1)]
+        for call in asked:
+            told = run(before + [call, (TOLD,), (FLOW,)])
+            self.assertEqual(told[-2:], plain, call)
+            self.assertGreaterEqual(told[-3][0], 0, call)
 
     def test_refusals_between_leave_the_answers(self):
         """P6."""
         refused = [
             (LAND, 1, 0, 0, 0), (ROAD, 0, 0, 0, 1), (ROAD, 0, 1, 0, 0), (CHANGE, 5, 0, 1), (CHANGE, 0, 0, 0),
             (TOLL, 5, 1, 1), (TOLL, 0, 1, 0), (SHUT, 5, 1), (SHUT, 0, 2), (DEMAND, 0),
+            (COST, 4), (WITHOUT, 5), (AT, 0), (AT, 1001), (WAY, 3), judge([0] * 5, 0), judge([0] * 4, 1),
         ]
-        plain = run(BRAESS + ASKING)[-3:]
-        self.assertEqual(run(BRAESS + refused + ASKING)[-3:], plain)
+        plain = run(BRAESS + ASKING + [(TOLD,)])[len(BRAESS):]
+        for calls in [refused] + [[call] for call in refused]:
+            told = run(BRAESS + calls + ASKING + [(TOLD,)])[len(BRAESS):]
+            self.assertTrue(all(len(one) == 1 and one[0] < 0 for one in told[:len(calls)]), calls)
+            self.assertEqual(told[len(calls):], plain, calls)
+
+    def test_after_a_refusal_for_want_of_a_way_all_is_as_before(self):
+        """P6."""
+        for before in WAYLESS:
+            asked = [call for call in NEEDING if call[0] != WITHOUT]
+            told = run(before + [(TOLD,)] + asked + [(TOLD,)])
+            self.assertEqual(told[len(before)], told[-1])
+        told = run(TWO[:2] + [(TOLD,), (FLOW,), (WITHOUT, 0), (TOLD,), (FLOW,)])
+        self.assertEqual(told[-5:-3], told[-2:])
 
 
 if __name__ == "__main__":
